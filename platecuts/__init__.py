@@ -1,0 +1,1 @@
+"""Platecuts: pieces cut from plates, from side to side."""

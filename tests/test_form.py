@@ -1,0 +1,80 @@
+"""The form of the package's files: the rules of LANGUAGE.md that are quickly seen."""
+
+import ast
+import pathlib
+import re
+import unittest
+
+FOLDER = pathlib.Path(__file__).resolve().parent.parent / "platecuts"
+FILES = sorted(FOLDER.glob("*.py"))
+BARRED = re.compile(
+    r"\b(type|typing|typing_extensions|enum|Enum|IntEnum|StrEnum|Flag|IntFlag|Generic|Protocol|ABC|ABCMeta"
+    r"|namedtuple|NamedTuple|TypedDict|TYPE_CHECKING|abstractmethod)\b|dataclass|overload|contextmanager")
+NODES = (
+    ast.With, ast.Match, ast.Global, ast.Nonlocal, ast.Yield, ast.YieldFrom, ast.AsyncFunctionDef, ast.Await,
+    ast.GeneratorExp, ast.NamedExpr, ast.Div, ast.Import,
+)
+
+
+def trees():
+    return [(path.name, ast.parse(path.read_text())) for path in FILES]
+
+
+def nodes_of(kind):
+    return [(name, node) for name, tree in trees() for node in ast.walk(tree) if isinstance(node, kind)]
+
+
+class Form(unittest.TestCase):
+    def test_folder(self):
+        names = [path.name for path in FOLDER.iterdir() if path.name != "__pycache__"]
+        self.assertIn("__init__.py", names)
+        for name in names:
+            self.assertRegex(name, r"^([a-z][a-z0-9_]*|__init__|__main__)\.py$")
+
+    def test_signs_and_sizes(self):
+        for path in FILES:
+            text = path.read_text()
+            lines = text.split("\n")
+            self.assertLessEqual(len(lines), 400, path.name)
+            self.assertLessEqual(max(len(line) for line in lines), 120, path.name)
+            self.assertRegex(text, r"\A[ -~\n]*\Z", path.name)
+            self.assertIsNone(BARRED.search(text), path.name)
+
+    def test_functions_are_small_and_plain(self):
+        for name, node in nodes_of(ast.FunctionDef):
+            self.assertLessEqual(node.end_lineno - node.lineno + 1, 40, (name, node.name))
+            self.assertEqual(node.decorator_list, [], (name, node.name))
+            self.assertIsNone(node.args.vararg, (name, node.name))
+            self.assertIsNone(node.args.kwarg, (name, node.name))
+
+    def test_statements(self):
+        for name, node in nodes_of(NODES):
+            self.fail(f"{name} has {type(node).__name__}")
+
+    def test_strings(self):
+        for name, node in nodes_of(ast.Constant):
+            self.assertNotIsInstance(node.value, (float, complex), name)
+            if isinstance(node.value, str):
+                self.assertNotIn("%", node.value, name)
+
+    def test_imports(self):
+        for name, node in nodes_of(ast.ImportFrom):
+            self.assertRegex(node.module, r"^(platecuts\.[a-z][a-z0-9_]*|__future__)$", name)
+            self.assertEqual(node.level, 0, name)
+            self.assertNotIn("*", [alias.name for alias in node.names], name)
+
+    def test_names(self):
+        for name, node in nodes_of((ast.Name, ast.arg, ast.Attribute)):
+            word = node.id if isinstance(node, ast.Name) else node.arg if isinstance(node, ast.arg) else node.attr
+            if word != "__init__":
+                self.assertRegex(word, r"^[A-Za-z]", name)
+
+    def test_no_name_is_a_method_and_an_attribute(self):
+        methods = {item.name for _, node in nodes_of(ast.ClassDef) for item in node.body
+                   if isinstance(item, ast.FunctionDef)}
+        attributes = {node.attr for _, node in nodes_of(ast.Attribute) if isinstance(node.ctx, ast.Store)}
+        self.assertEqual(methods & attributes, set())
+
+
+if __name__ == "__main__":
+    unittest.main()
