@@ -1,5 +1,7 @@
 """What all files ask of things that are handed in."""
 
+from platecuts.errors import NoPlate, TooLarge
+
 
 def is_whole(thing, least):
     """Tell of anything whether it is a whole number from least on."""
@@ -15,3 +17,15 @@ def is_truth(thing):
 def is_row(thing):
     """Tell of anything whether it is a list or a tuple, which may stand for each other."""
     return isinstance(thing, (list, tuple))
+
+
+def check_plate(wide, high):
+    """Refuse any two things that are not the sides of a plate."""
+    if not is_whole(wide, 1) or not is_whole(high, 1):
+        raise NoPlate("the sides of a plate are whole numbers from 1 on")
+
+
+def check_sides(wide, high, most):
+    """Refuse a plate with a side above the bound."""
+    if wide > most or high > most:
+        raise TooLarge(f"a side of the plate is above {most}")

@@ -1,6 +1,7 @@
 """The form of the package's files: the rules of LANGUAGE.md that are quickly seen."""
 
 import ast
+import builtins
 import pathlib
 import re
 import unittest
@@ -14,6 +15,14 @@ NODES = (
     ast.With, ast.Match, ast.Global, ast.Nonlocal, ast.Yield, ast.YieldFrom, ast.AsyncFunctionDef, ast.Await,
     ast.GeneratorExp, ast.NamedExpr, ast.Div, ast.Import,
 )
+BUILTINS = set(
+    "len range enumerate zip min max sum abs sorted reversed int str bool bytes list tuple dict set isinstance ord repr "
+    "any all divmod Exception ValueError TypeError KeyError IndexError LookupError ZeroDivisionError ArithmeticError "
+    "OverflowError RuntimeError NotImplementedError".split())
+METHODS = set(
+    "append clear copy count endswith extend find get index insert isalnum isalpha isdigit islower isspace isupper "
+    "items join keys ljust lower lstrip partition pop remove replace reverse rfind rjust rpartition rsplit rstrip "
+    "setdefault split splitlines startswith strip update upper values zfill bit_length isascii add discard".split())
 
 
 def trees():
@@ -68,6 +77,66 @@ class Form(unittest.TestCase):
             word = node.id if isinstance(node, ast.Name) else node.arg if isinstance(node, ast.arg) else node.attr
             if word != "__init__":
                 self.assertRegex(word, r"^[A-Za-z]", name)
+
+    def test_names_of_builtins(self):
+        for name, node in nodes_of(ast.Name):
+            if isinstance(node.ctx, ast.Store):
+                self.assertFalse(hasattr(builtins, node.id), (name, node.id))
+            elif hasattr(builtins, node.id):
+                self.assertIn(node.id, BUILTINS, name)
+        for name, node in nodes_of(ast.arg):
+            self.assertFalse(hasattr(builtins, node.arg), (name, node.arg))
+
+    def test_locals_do_not_hide_what_the_file_has(self):
+        for name, tree in trees():
+            held = {alias.asname or alias.name for node in tree.body if isinstance(node, ast.ImportFrom)
+                    for alias in node.names}
+            held |= {node.name for node in tree.body if isinstance(node, (ast.ClassDef, ast.FunctionDef))}
+            for node in ast.walk(tree):
+                if isinstance(node, ast.arg):
+                    self.assertNotIn(node.arg, held, name)
+                if isinstance(node, ast.Name) and isinstance(node.ctx, ast.Store):
+                    self.assertNotIn(node.id, held, name)
+
+    def test_imports_name_the_defining_file_and_are_used(self):
+        bound = {}
+        needs = {}
+        for name, tree in trees():
+            module = "platecuts." + name[:-3]
+            bound[module] = {node.name for node in tree.body if isinstance(node, (ast.ClassDef, ast.FunctionDef))}
+            bound[module] |= {target.id for node in tree.body if isinstance(node, ast.Assign) for target in node.targets}
+            needs[module] = {node.module for node in tree.body if isinstance(node, ast.ImportFrom)}
+        for name, node in nodes_of(ast.ImportFrom):
+            text = (FOLDER / name).read_text()
+            for alias in node.names:
+                self.assertIn(alias.name, bound[node.module], name)
+                self.assertGreater(len(re.findall(rf"\b{alias.name}\b", text)), 1, (name, alias.name))
+        while needs:
+            free = [module for module in needs if not needs[module] & set(needs)]
+            self.assertNotEqual(free, [], "files import from each other")
+            for module in free:
+                del needs[module]
+
+    def test_methods(self):
+        own = {item.name for _, node in nodes_of(ast.ClassDef) for item in node.body
+               if isinstance(item, ast.FunctionDef)}
+        for name, node in nodes_of(ast.Call):
+            if isinstance(node.func, ast.Attribute):
+                self.assertIn(node.func.attr, METHODS | own, name)
+
+    def test_signs_of_the_language(self):
+        for name, node in nodes_of(ast.Compare):
+            for sign, right in zip(node.ops, node.comparators):
+                if isinstance(sign, (ast.Is, ast.IsNot)):
+                    self.assertTrue(isinstance(right, ast.Constant) and right.value in (None, True, False), name)
+        for name, node in nodes_of((ast.For, ast.While)):
+            self.assertEqual(node.orelse, [], name)
+        for name, node in nodes_of(ast.Starred):
+            self.assertIsInstance(node.ctx, ast.Store, name)
+        for name, node in nodes_of(ast.FormattedValue):
+            self.assertIsNone(node.format_spec, name)
+        for name, node in nodes_of(ast.Pow):
+            self.fail(f"{name} has a power")
 
     def test_no_name_is_a_method_and_an_attribute(self):
         methods = {item.name for _, node in nodes_of(ast.ClassDef) for item in node.body

@@ -1,5 +1,6 @@
-"""What several test files need: odd things, and a look at refusals."""
+"""What several test files need: odd things, a look at refusals, trees made by chance and looked at cell by cell."""
 
+import functools
 from fractions import Fraction
 
 from platecuts.errors import PlateError
@@ -65,3 +66,152 @@ class Refusing:
         with self.assertRaises(PlateError, msg=f"{things!r:.200}") as caught:
             deed(*things)
         self.assertIs(type(caught.exception), error, f"{things!r:.200}")
+
+
+def as_lists(thing):
+    """The same with lists for all tuples."""
+    return [as_lists(inner) for inner in thing] if isinstance(thing, (list, tuple)) else thing
+
+
+def as_tuples(thing):
+    """The same with tuples for all lists."""
+    return tuple([as_tuples(inner) for inner in thing]) if isinstance(thing, (list, tuple)) else thing
+
+
+def mixed(thing, chance):
+    """The same with lists and tuples as chance will have it."""
+    if not isinstance(thing, (list, tuple)):
+        return thing
+    return chance.choice((list, tuple))([mixed(inner, chance) for inner in thing])
+
+
+def is_all_tuples(thing):
+    """Whether a tree, or what is like one, has plain tuples throughout, and words, ints and truths in them."""
+    if type(thing) is tuple:
+        return all(is_all_tuples(inner) for inner in thing)
+    return type(thing) in (int, bool, str)
+
+
+def with_one_changed(thing, other):
+    """Of a nest of tuples: a list of (what stood there, the nest with other there), for each place in it."""
+    found = [(thing, other)]
+    if isinstance(thing, tuple):
+        for at, inner in enumerate(thing):
+            for was, changed in with_one_changed(inner, other):
+                found.append((was, thing[:at] + (changed,) + thing[at + 1:]))
+    return found
+
+
+def sides_by_kind(shop, kind, turned):
+    wide, high = shop.kinds()[kind][:2]
+    return (high, wide) if turned else (wide, high)
+
+
+def chance_leaf(chance, shop, wide, high):
+    fitting = [lying for lying in shop.lyings()
+               if sides_by_kind(shop, *lying)[0] <= wide and sides_by_kind(shop, *lying)[1] <= high]
+    if not fitting or chance.random() < 0.3:
+        return ("rest",)
+    kind, turned = chance.choice(fitting)
+    piece_wide, piece_high = sides_by_kind(shop, kind, turned)
+    return ("piece", kind, turned, chance.randint(0, wide - piece_wide), chance.randint(0, high - piece_high))
+
+
+def chance_tree(chance, shop, wide, high, cuts):
+    """A tree with at most so many cuts."""
+    blade = shop.blade()
+    ways = [(way, side) for way, side in (("down", wide), ("across", high)) if side - blade >= 2]
+    if cuts < 1 or not ways:
+        return chance_leaf(chance, shop, wide, high)
+    way, side = chance.choice(ways)
+    p = chance.randint(1, side - blade - 1)
+    ahead = chance.randint(0, cuts - 1)
+    if way == "down":
+        return (way, p, chance_tree(chance, shop, p, high, ahead),
+                chance_tree(chance, shop, wide - p - blade, high, cuts - 1 - ahead))
+    return (way, p, chance_tree(chance, shop, wide, p, ahead),
+            chance_tree(chance, shop, wide, high - p - blade, cuts - 1 - ahead))
+
+
+def cells_of(x, y, wide, high):
+    return {(right, up) for right in range(x, x + wide) for up in range(y, y + high)}
+
+
+def paint(shop, cells, tree):
+    """What a tree makes of its part's cells: a list of (sort, cells), found cell by cell."""
+    left, below = min(x for x, y in cells), min(y for x, y in cells)
+    if tree[0] == "rest":
+        return [("rest", cells)]
+    if tree[0] == "piece":
+        _, kind, turned, x, y = tree
+        piece = cells_of(left + x, below + y, *sides_by_kind(shop, kind, turned))
+        return [("piece", piece), ("margin", cells - piece)]
+    way, p, first, second = tree
+    axis, start = (0, left) if way == "down" else (1, below)
+    ahead = {cell for cell in cells if cell[axis] < start + p}
+    behind = {cell for cell in cells if cell[axis] >= start + p + shop.blade()}
+    return paint(shop, ahead, first) + [("blade", cells - ahead - behind)] + paint(shop, behind, second)
+
+
+def all_trees(shop, wide, high):
+    """All trees of a part, one by one, but for where in their parts the pieces lie."""
+    leaves = [("rest",)] + [("piece", kind, turned, 0, 0) for kind, turned in shop.lyings()
+                            if sides_by_kind(shop, kind, turned)[0] <= wide
+                            and sides_by_kind(shop, kind, turned)[1] <= high]
+    blade = shop.blade()
+    for leaf in leaves:
+        yield leaf
+    for p in range(1, wide - blade):
+        for first in all_trees(shop, p, high):
+            for second in all_trees(shop, wide - p - blade, high):
+                yield ("down", p, first, second)
+    for p in range(1, high - blade):
+        for first in all_trees(shop, wide, p):
+            for second in all_trees(shop, wide, high - p - blade):
+                yield ("across", p, first, second)
+
+
+def plain_worth(shop, tree):
+    if tree[0] == "rest":
+        return 0
+    if tree[0] == "piece":
+        return shop.kinds()[tree[1]][2]
+    return plain_worth(shop, tree[2]) + plain_worth(shop, tree[3])
+
+
+def plain_turns(tree):
+    """The turns of a tree, by the words along each way to a leaf."""
+    def ways(tree, ahead):
+        if tree[0] in ("rest", "piece"):
+            return [ahead]
+        return ways(tree[2], ahead + tree[0][0]) + ways(tree[3], ahead + tree[0][0])
+    return max(way.count("da") + way.count("ad") for way in ways(tree, ""))
+
+
+def most_worth(shop):
+    """A function of a part's sides that tells its most worth, reckoned from the whole to the parts."""
+    lying_worths = [sides_by_kind(shop, kind, turned) + (shop.kinds()[kind][2],) for kind, turned in shop.lyings()]
+    blade = shop.blade()
+
+    @functools.lru_cache(maxsize=None)
+    def most(wide, high):
+        found = [worth for a, b, worth in lying_worths if a <= wide and b <= high] + [0]
+        found += [most(p, high) + most(wide - p - blade, high) for p in range(1, wide) if wide - p - blade > 0]
+        found += [most(wide, p) + most(wide, high - p - blade) for p in range(1, high) if high - p - blade > 0]
+        return max(found)
+    return most
+
+
+def comb(ways, p, first, last):
+    """A tree with a cut for each of the ways, all at p, each one in the second part of the one ahead."""
+    tree = last
+    for way in reversed(ways):
+        tree = (way, p, first, tree)
+    return tree
+
+
+def bush(deep, p, leaf):
+    """A tree of cuts down, the one below the next halving its part, so many deep: of a part 2 * p wide, no blade."""
+    if deep == 0:
+        return leaf
+    return ("down", p, bush(deep - 1, p // 2, leaf), bush(deep - 1, p // 2, leaf))
