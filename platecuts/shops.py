@@ -45,6 +45,10 @@ class Shop:
         """A new list of the kinds, in their order."""
         return list(self.kind_rows)
 
+    def wanted(self):
+        """How many pieces of each kind are wanted: a tuple."""
+        return tuple([kind[3] for kind in self.kind_rows])
+
     def lyings(self):
         """A new list of all lyings (kind, turned), sorted."""
         told = []

@@ -215,3 +215,43 @@ def bush(deep, p, leaf):
     if deep == 0:
         return leaf
     return ("down", p, bush(deep - 1, p // 2, leaf), bush(deep - 1, p // 2, leaf))
+
+
+def borne_bundles(shop):
+    """A function of a part's sides that tells all bundles it bears, reckoned from the whole to the parts."""
+    wanted = tuple(kind[3] for kind in shop.kinds())
+    lyings = [sides_by_kind(shop, *lying) + (lying[0],) for lying in shop.lyings()]
+    blade = shop.blade()
+
+    def sums(some, others):
+        both = {tuple(map(sum, zip(one, other))) for one in some for other in others}
+        return {bundle for bundle in both if all(few <= most for few, most in zip(bundle, wanted))}
+
+    @functools.lru_cache(maxsize=None)
+    def borne(wide, high):
+        found = {(0,) * len(wanted)}
+        for a, b, kind in lyings:
+            if a <= wide and b <= high and wanted[kind]:
+                found.add((0,) * kind + (1,) + (0,) * (len(wanted) - kind - 1))
+        for p in range(1, wide - blade):
+            found |= sums(borne(p, high), borne(wide - p - blade, high))
+        for p in range(1, high - blade):
+            found |= sums(borne(wide, p), borne(wide, high - p - blade))
+        return found
+    return borne
+
+
+def none_lesser(bundles):
+    """Those of the bundles, sorted, than which none of them is greater."""
+    return sorted(one for one in bundles if not any(
+        one != other and all(few <= many for few, many in zip(one, other)) for other in bundles))
+
+
+def chance_wanting(chance, most_side, most_wanted):
+    """A shop with kinds of few sides, of which at most so many pieces are wanted together."""
+    kinds = [(chance.randint(1, most_side), chance.randint(1, most_side), chance.randint(0, 9), chance.random() < 0.5)
+             for _ in range(chance.randint(1, 8))]
+    wanted = [0] * len(kinds)
+    for _ in range(chance.randint(0, most_wanted)):
+        wanted[chance.randrange(len(kinds))] += 1
+    return Shop(chance.randint(0, 2), [kind[:3] + (many,) + kind[3:] for kind, many in zip(kinds, wanted)])
