@@ -255,3 +255,20 @@ def chance_wanting(chance, most_side, most_wanted):
     for _ in range(chance.randint(0, most_wanted)):
         wanted[chance.randrange(len(kinds))] += 1
     return Shop(chance.randint(0, 2), [kind[:3] + (many,) + kind[3:] for kind, many in zip(kinds, wanted)])
+
+
+def sides_behind(blade, way, p, wide, high):
+    """The sides of both parts of a cut."""
+    if way == "down":
+        return (p, high), (wide - p - blade, high)
+    return (wide, p), (wide, high - p - blade)
+
+
+def plain_leaves(blade, x, y, wide, high, tree):
+    """All (x, y, wide, high, leaf) of a tree, that of the first part ahead of that of the second."""
+    if tree[0] in ("rest", "piece"):
+        return [(x, y, wide, high, tree)]
+    way, p, first, second = tree
+    ahead, behind = sides_behind(blade, way, p, wide, high)
+    far = (x + p + blade, y) if way == "down" else (x, y + p + blade)
+    return plain_leaves(blade, x, y, *ahead, first) + plain_leaves(blade, *far, *behind, second)
